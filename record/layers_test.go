@@ -3,13 +3,16 @@ package record_test
 import (
 	"math"
 	"math/rand"
+	"slices"
 	"strings"
 	"testing"
 
 	"graver/class"
 	"graver/ehdr"
 	"graver/order"
+	"graver/phdr"
 	"graver/shdr"
+	"graver/symrec"
 )
 
 var forms = []class.Form{
@@ -82,6 +85,46 @@ func TestShdr(t *testing.T) {
 			{"Align", 0, func(x *shdr.Section) *uint64 { return &x.Align }},
 			{"EntSize", 0, func(x *shdr.Section) *uint64 { return &x.EntSize }},
 		}
+	}})
+}
+
+// P7.1, P7.2
+func TestPhdr(t *testing.T) {
+	flags := field[phdr.Segment]{"Flags", 4, func(x *phdr.Segment) *uint64 { return &x.Flags }}
+	try(t, layer[phdr.Segment]{phdr.Size, phdr.Put, phdr.Read, func(f class.Form) []field[phdr.Segment] {
+		at := 6
+		if f.Wide {
+			at = 1
+		}
+		return slices.Insert([]field[phdr.Segment]{
+			{"Type", 4, func(x *phdr.Segment) *uint64 { return &x.Type }},
+			{"Offset", 0, func(x *phdr.Segment) *uint64 { return &x.Offset }},
+			{"VAddr", 0, func(x *phdr.Segment) *uint64 { return &x.VAddr }},
+			{"PAddr", 0, func(x *phdr.Segment) *uint64 { return &x.PAddr }},
+			{"FileSize", 0, func(x *phdr.Segment) *uint64 { return &x.FileSize }},
+			{"MemSize", 0, func(x *phdr.Segment) *uint64 { return &x.MemSize }},
+			{"Align", 0, func(x *phdr.Segment) *uint64 { return &x.Align }},
+		}, at, flags)
+	}})
+}
+
+// P8.1, P8.2
+func TestSymrec(t *testing.T) {
+	words := []field[symrec.Symbol]{
+		{"Value", 0, func(x *symrec.Symbol) *uint64 { return &x.Value }},
+		{"Size", 0, func(x *symrec.Symbol) *uint64 { return &x.Size }},
+	}
+	try(t, layer[symrec.Symbol]{symrec.Size, symrec.Put, symrec.Read, func(f class.Form) []field[symrec.Symbol] {
+		at := 1
+		if f.Wide {
+			at = 4
+		}
+		return slices.Insert([]field[symrec.Symbol]{
+			{"Name", 4, func(x *symrec.Symbol) *uint64 { return &x.Name }},
+			{"Info", 1, func(x *symrec.Symbol) *uint64 { return &x.Info }},
+			{"Other", 1, func(x *symrec.Symbol) *uint64 { return &x.Other }},
+			{"Shndx", 2, func(x *symrec.Symbol) *uint64 { return &x.Shndx }},
+		}, at, words...)
 	}})
 }
 
