@@ -11,6 +11,7 @@ import (
 	"graver/ehdr"
 	"graver/order"
 	"graver/phdr"
+	"graver/relrec"
 	"graver/shdr"
 	"graver/symrec"
 )
@@ -126,6 +127,35 @@ func TestSymrec(t *testing.T) {
 			{"Shndx", 2, func(x *symrec.Symbol) *uint64 { return &x.Shndx }},
 		}, at, words...)
 	}})
+}
+
+// P9.1, P9.2: the info has the Type in its lowest bits, which a big-endian form
+// has last.
+func TestRelrec(t *testing.T) {
+	for _, addend := range []bool{false, true} {
+		size := func(f class.Form) int { return relrec.Size(f, addend) }
+		put := func(f class.Form, x relrec.Reloc) (string, bool) { return relrec.Put(f, addend, x) }
+		read := func(f class.Form, s string) (relrec.Reloc, bool) { return relrec.Read(f, addend, s) }
+		try(t, layer[relrec.Reloc]{size, put, read, func(f class.Form) []field[relrec.Reloc] {
+			info := []field[relrec.Reloc]{
+				{"Type", 1, func(x *relrec.Reloc) *uint64 { return &x.Type }},
+				{"Sym", 3, func(x *relrec.Reloc) *uint64 { return &x.Sym }},
+			}
+			if f.Wide {
+				info[0].bytes, info[1].bytes = 4, 4
+			}
+			if f.Big {
+				slices.Reverse(info)
+			}
+			l := append([]field[relrec.Reloc]{
+				{"Offset", 0, func(x *relrec.Reloc) *uint64 { return &x.Offset }},
+			}, info...)
+			if addend {
+				l = append(l, field[relrec.Reloc]{"Addend", 0, func(x *relrec.Reloc) *uint64 { return &x.Addend }})
+			}
+			return l
+		}})
+	}
 }
 
 func try[T comparable](t *testing.T, l layer[T]) {

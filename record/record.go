@@ -1,5 +1,6 @@
-// Package record reads records: what is common to the layers 5 to 8, whose
-// headers and symbols are numbers of given sizes, one behind the other.
+// Package record reads records: what is common to the layers 5 to 9, whose
+// headers, symbols and relocations are numbers of given sizes, one behind the
+// other.
 package record
 
 import (
